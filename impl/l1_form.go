@@ -1,6 +1,7 @@
 package impl
 
 import (
+	"slices"
 	"strconv"
 	"strings"
 )
@@ -46,7 +47,7 @@ func FrmZero() FrmForm {
 
 // FrmPot is the form that is one pot.
 func FrmPot(v int) FrmForm {
-	if v < 0 || v >= FrmPots {
+	if !isPlace(v, FrmPots) {
 		return FrmForm{}
 	}
 	f := FrmZero()
@@ -164,18 +165,32 @@ func allFormsOk(forms ...FrmForm) bool {
 }
 
 func allWithin(limit int, numbers ...int) bool {
+	return allBetween(-limit, limit, numbers...)
+}
+
+func allBetween(least int, most int, numbers ...int) bool {
 	for _, n := range numbers {
-		if n < -limit || n > limit {
+		if n < least || n > most {
 			return false
 		}
 	}
 	return true
 }
 
+func isPlace(at int, size int) bool {
+	return at >= 0 && at < size
+}
+
 func addEach(sums []int, more []int) {
 	for i, n := range more {
 		sums[i] += n
 	}
+}
+
+func sumOfNumbers(a []int, b []int) []int {
+	sums := slices.Clone(a)
+	addEach(sums, b)
+	return sums
 }
 
 func timesEach(numbers []int, n int) []int {
@@ -225,7 +240,7 @@ func readTimes(word string, letter string, numbers []int) bool {
 	many, which, found := strings.Cut(word, letter)
 	n, manyErr := strconv.Atoi(many)
 	place, placeErr := strconv.Atoi(which)
-	if !found || manyErr != nil || placeErr != nil || place < 0 || place >= len(numbers) {
+	if !found || manyErr != nil || placeErr != nil || !isPlace(place, len(numbers)) {
 		return false
 	}
 	numbers[place] = n
