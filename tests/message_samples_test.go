@@ -250,3 +250,23 @@ func wrongDones() []impl.PlnDone {
 	}
 	return append(list, done(0, 0, 0), done(0, 0, 5), done(0, impl.ResDone, 1))
 }
+
+// wrongMessages have one thing that is not ok, or that their kind does not have, or are of no kind.
+func wrongMessages(p impl.PlnPlan) []impl.MsgMsg {
+	var list []impl.MsgMsg
+	for _, thing := range msgThings() {
+		for _, kind := range kinds() {
+			wrong := thing.some
+			if slices.Contains(thing.kinds, kind) {
+				wrong = thing.wrong(p, kind)
+			}
+			for _, value := range wrong {
+				list = append(list, thing.with(bare(p, kind), value))
+			}
+		}
+	}
+	for _, kind := range []int{0, -1, impl.MsgPact + 1} {
+		list = append(list, impl.MsgMsg{Kind: kind}, impl.MsgMsg{Kind: kind, To: impl.MsgClerk})
+	}
+	return list
+}

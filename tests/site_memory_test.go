@@ -159,7 +159,12 @@ func TestSitesLeaveNothingRunning(t *testing.T) {
 		})
 	}
 	all.Wait()
-	// One that has answered may still be on its last step, so it is given the time for it.
+	checkNothingRuns(t, before)
+}
+
+// checkNothingRuns asks that no more goroutines run than before; one that has answered may still be on its last step, so it is given the time for it.
+func checkNothingRuns(t *testing.T, before int) {
+	t.Helper()
 	for range 1000 {
 		if runtime.NumGoroutine() <= before {
 			return

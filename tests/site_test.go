@@ -172,19 +172,8 @@ func TestSitesWithWrongInputs(t *testing.T) {
 
 func TestSitHearOfMessagesThatAreNotOk(t *testing.T) {
 	for _, c := range []siteCase{taker(), taker().up(false), taker().frozen(true)} {
-		for _, thing := range msgThings() {
-			for _, kind := range kinds() {
-				wrong := thing.some
-				if slices.Contains(thing.kinds, kind) {
-					wrong = thing.wrong(c.p, kind)
-				}
-				for _, value := range wrong {
-					checkNoHear(t, c, thing.with(bare(c.p, kind), value), "with a wrong "+thing.name)
-				}
-			}
-		}
-		for _, kind := range []int{0, -1, impl.MsgPact + 1} {
-			checkNoHear(t, c, impl.MsgMsg{Kind: kind}, "of another kind")
+		for _, m := range wrongMessages(c.p) {
+			checkNoHear(t, c, m, "a message that is not ok")
 		}
 	}
 }
