@@ -9,6 +9,28 @@ import (
 	"loop.example/concord/impl"
 )
 
+func roomyLog(list []impl.LogDone) []impl.LogDone {
+	var long []impl.LogDone
+	for _, one := range list {
+		long = append(long, impl.LogDone{Call: roomyCall(one.Call), Res: impl.ResResult{Code: one.Res.Code, Tells: roomy(one.Res.Tells)}})
+	}
+	return append(long, impl.LogDone{Call: call(0, mark, 0)})[:len(list)]
+}
+
+func checkLogAsItWas(t *testing.T, name string, list, before []impl.LogDone) {
+	t.Helper()
+	for at, one := range list {
+		checkCallAsItWas(t, name, one.Call, before[at].Call)
+		checkGiven(t, name, [][]int{one.Res.Tells}, [][]int{before[at].Res.Tells})
+		if one.Res.Code != before[at].Res.Code {
+			t.Errorf("%s: the result %d is %v, and was %v", name, at, one.Res, before[at].Res)
+		}
+	}
+	if behind := list[:len(list)+1][len(list)]; behind.Call.Seq != mark {
+		t.Errorf("%s: behind Log stands %v", name, behind)
+	}
+}
+
 // roomyWorld is a copy with marked spare room behind each of its lists.
 func roomyWorld(w impl.WldWorld) impl.WldWorld {
 	long := impl.WldWorld{Plan: roomyPlan(w.Plan), Clerk: roomyClerk(w.Clerk)}
@@ -22,14 +44,10 @@ func roomyWorld(w impl.WldWorld) impl.WldWorld {
 	for _, m := range w.Net {
 		long.Net = append(long.Net, roomyMessage(m))
 	}
-	for _, one := range w.Log {
-		one.Call, one.Res.Tells = roomyCall(one.Call), roomy(one.Res.Tells)
-		long.Log = append(long.Log, one)
-	}
+	long.Log = roomyLog(w.Log)
 	long.Sites = append(long.Sites, impl.SitSite{Round: mark})[:len(w.Sites)]
 	long.Clients = append(long.Clients, impl.ConClient{Seq: mark})[:len(w.Clients)]
 	long.Net = append(long.Net, impl.MsgMsg{Kind: mark})[:len(w.Net)]
-	long.Log = append(long.Log, impl.LogDone{Call: call(0, mark, 0)})[:len(w.Log)]
 	return long
 }
 
@@ -50,15 +68,11 @@ func checkWorldAsItWas(t *testing.T, name string, w, before impl.WldWorld) {
 	for at, m := range w.Net {
 		checkMessageAsItWas(t, name, m, before.Net[at])
 	}
-	for at, one := range w.Log {
-		checkCallAsItWas(t, name, one.Call, before.Log[at].Call)
-		checkGiven(t, name, [][]int{one.Res.Tells}, [][]int{before.Log[at].Res.Tells})
-	}
+	checkLogAsItWas(t, name, w.Log, before.Log)
 	behind := []int{
-		w.Sites[:len(w.Sites)+1][len(w.Sites)].Round, w.Clients[:len(w.Clients)+1][len(w.Clients)].Seq,
-		w.Net[:len(w.Net)+1][len(w.Net)].Kind, w.Log[:len(w.Log)+1][len(w.Log)].Call.Seq,
+		w.Sites[:len(w.Sites)+1][len(w.Sites)].Round, w.Clients[:len(w.Clients)+1][len(w.Clients)].Seq, w.Net[:len(w.Net)+1][len(w.Net)].Kind,
 	}
-	if !slices.Equal(behind, []int{mark, mark, mark, mark}) {
+	if !slices.Equal(behind, []int{mark, mark, mark}) {
 		t.Errorf("%s: behind the lists stands %v", name, behind)
 	}
 }

@@ -354,12 +354,18 @@ func (t *turning) someEvent(w impl.WldWorld, crowd int) impl.WldEvent {
 
 // walks goes so many ways from WldNew on, each third one through crowds of messages, and shows each step.
 func walks(state uint64, many, steps int, show func(before impl.WldWorld, e impl.WldEvent, then impl.WldWorld)) {
+	anything := func(turn *turning, w impl.WldWorld, crowd, step int) impl.WldEvent { return turn.someEvent(w, crowd) }
+	walksBy(state, many, steps, (*turning).loosePlan, anything, show)
+}
+
+// walksBy goes as walks does, with plans and events of its own.
+func walksBy(state uint64, many, steps int, plan func(turn *turning) impl.PlnPlan, pick func(turn *turning, w impl.WldWorld, crowd, step int) impl.WldEvent, show func(before impl.WldWorld, e impl.WldEvent, then impl.WldWorld)) {
 	turn := &turning{state: state}
 	for i := range many {
 		crowd := []int{3, 6, impl.WldMaxNet + 1}[i%3]
-		w := impl.WldNew(turn.loosePlan())
-		for range steps {
-			e := turn.someEvent(w, crowd)
+		w := impl.WldNew(plan(turn))
+		for step := range steps {
+			e := pick(turn, w, crowd, step)
 			then := impl.WldStep(w, e)
 			show(w, e, then)
 			w = then

@@ -36,6 +36,7 @@ func brokenTreaty(w impl.WldWorld) string {
 }
 
 func TestP4AllKeepToWhatTheyAgreedUpon(t *testing.T) {
+	t.Parallel()
 	behind, told, ended := 0, 0, 0
 	walks(120, 45, 400, func(before impl.WldWorld, e impl.WldEvent, then impl.WldWorld) {
 		if why := brokenTreaty(then); why != "" {
@@ -57,6 +58,7 @@ func TestP4AllKeepToWhatTheyAgreedUpon(t *testing.T) {
 }
 
 func TestP14FromWldNewOnTheWorldIsOk(t *testing.T) {
+	t.Parallel()
 	full := 0
 	walks(121, 30, 300, func(before impl.WldWorld, e impl.WldEvent, then impl.WldWorld) {
 		if !impl.WldOk(then) || !samePlan(then.Plan, before.Plan) {
@@ -73,6 +75,7 @@ func TestP14FromWldNewOnTheWorldIsOk(t *testing.T) {
 
 // Behind any world that is ok there is one, too, whatever happens.
 func TestP14BehindAnyWorldTheWorldIsOk(t *testing.T) {
+	t.Parallel()
 	turn := &turning{state: 122}
 	for _, w := range looseWorlds(123, 12) {
 		for _, e := range turn.looseEvents(w) {
@@ -99,6 +102,7 @@ func checkGoesForward(t *testing.T, w impl.WldWorld, e impl.WldEvent, then impl.
 }
 
 func TestP15BehindAnyWorld(t *testing.T) {
+	t.Parallel()
 	rounds, written := 0, 0
 	show := func(w impl.WldWorld, e impl.WldEvent, then impl.WldWorld) {
 		checkGoesForward(t, w, e, then)
@@ -178,6 +182,7 @@ func TestP20ACallTurnsNothingButItsClient(t *testing.T) {
 }
 
 func TestP21WhatWasDoneIsAnsweredAndNotDoneAgain(t *testing.T) {
+	t.Parallel()
 	lost, rounds := 0, 0
 	show := func(w impl.WldWorld, e impl.WldEvent, then impl.WldWorld) {
 		for at, client := range then.Clients {
@@ -212,6 +217,7 @@ func TestP21WhatWasDoneIsAnsweredAndNotDoneAgain(t *testing.T) {
 
 // A call that a home does by WldDeaf has the result that WldTry would have answered.
 func TestP21DeafDoesWhatTryDoes(t *testing.T) {
+	t.Parallel()
 	did := 0
 	walks(132, 30, 200, func(before impl.WldWorld, e impl.WldEvent, then impl.WldWorld) {
 		if e.Kind != impl.WldTry && e.Kind != impl.WldDeaf {
@@ -261,6 +267,7 @@ func checkTry(t *testing.T, w impl.WldWorld, at int) int {
 }
 
 func TestP22ATryIsAnsweredOrAskedFor(t *testing.T) {
+	t.Parallel()
 	var counts [3]int
 	tryAll := func(w impl.WldWorld) {
 		for at, client := range w.Clients {
